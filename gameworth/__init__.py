@@ -1,0 +1,1 @@
+"""Gameworth: what a game is worth."""

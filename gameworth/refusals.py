@@ -1,0 +1,16 @@
+"""The refusals, an error class each."""
+
+
+# Answered as -1: a slot that there isn't, or a row that is too long.
+class OutOfPlace(Exception):
+    pass
+
+
+# Answered as -2: a number that the call doesn't take.
+class OutOfRange(Exception):
+    pass
+
+
+# Answered as -5: too many parts, or too many options in all.
+class NoRoom(Exception):
+    pass
