@@ -1,6 +1,6 @@
 """The interface: a list of calls on one new object, and what they answer."""
 
-from gameworth.refusals import NoRoom, OutOfPlace, OutOfRange
+from gameworth.refusals import NoGame, NoRoom, OutOfPlace, OutOfRange
 from gameworth.slots import Slots
 
 NUMBER = 0
@@ -9,10 +9,16 @@ MAKE = 2
 MINUS = 3
 SUM_OF = 4
 TIMES = 5
+OPTION = 6
+ORDER = 7
+SHAPE = 8
+ROOM = 9
+WRITE = 10
+READ = 11
 
 # By call: how many whole numbers it has, and how many rows behind these.
-NUMBERS_OF_CALLS = (3, 2, 1, 2, 3, 3)
-ROWS_OF_CALLS = (0, 0, 2, 0, 0, 0)
+NUMBERS_OF_CALLS = (3, 2, 1, 2, 3, 3, 4, 2, 1, 0, 1, 1)
+ROWS_OF_CALLS = (0, 0, 2, 0, 0, 0, 0, 0, 0, 0, 0, 1)
 
 
 # Takes a list of calls piece by piece and leaves it as it is.
@@ -37,19 +43,36 @@ class Reader:
         return self.take_numbers(how_many)
 
 
-def carry_out(slots, call, numbers, rows):
+def put_game(slots, call, numbers, rows):
     if call == NUMBER:
-        slots.write_number(numbers[0], numbers[1], numbers[2])
+        slots.put_number(numbers[0], numbers[1], numbers[2])
     elif call == HEAP:
-        slots.write_heap(numbers[0], numbers[1])
+        slots.put_heap(numbers[0], numbers[1])
     elif call == MAKE:
-        slots.write_made(numbers[0], rows[0], rows[1])
+        slots.put_made(numbers[0], rows[0], rows[1])
     elif call == MINUS:
-        slots.write_minus(numbers[0], numbers[1])
+        slots.put_minus(numbers[0], numbers[1])
     elif call == SUM_OF:
-        slots.write_sum(numbers[0], numbers[1], numbers[2])
-    else:
-        slots.write_times(numbers[0], numbers[1], numbers[2])
+        slots.put_sum(numbers[0], numbers[1], numbers[2])
+    elif call == TIMES:
+        slots.put_times(numbers[0], numbers[1], numbers[2])
+    elif call == OPTION:
+        slots.put_option(numbers[0], numbers[1], numbers[2], numbers[3])
+    elif call == READ:
+        slots.put_read(numbers[0], rows[0])
+
+
+def carry_out(slots, call, numbers, rows):
+    if call == ORDER:
+        return [slots.tell_order(numbers[0], numbers[1])]
+    if call == SHAPE:
+        return [0] + slots.tell_shape(numbers[0])
+    if call == ROOM:
+        return [0] + slots.tell_room()
+    if call == WRITE:
+        text = slots.tell_bytes(numbers[0])
+        return [0, len(text)] + text
+    put_game(slots, call, numbers, rows)
     return [0]
 
 
@@ -60,6 +83,8 @@ def answer(slots, call, numbers, rows):
         answered = [-1]
     except OutOfRange:
         answered = [-2]
+    except NoGame:
+        answered = [-3]
     except NoRoom:
         answered = [-5]
     slots.tidy()

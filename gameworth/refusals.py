@@ -1,13 +1,18 @@
 """The refusals, an error class each."""
 
 
-# Answered as -1: a slot that there isn't, or a row that is too long.
+# Answered as -1: a slot or a side that there isn't, or a row that is too long.
 class OutOfPlace(Exception):
     pass
 
 
 # Answered as -2: a number that the call doesn't take.
 class OutOfRange(Exception):
+    pass
+
+
+# Answered as -3: bytes that are no game's.
+class NoGame(Exception):
     pass
 
 

@@ -44,6 +44,11 @@ def inside_of(parts):
     return bits
 
 
+# Both are parts of one table.
+def is_at_most(x, y):
+    return (x.as_good[LEFT] & y.bit) != 0
+
+
 # Python compares lists as the order of games compares rows, so options are told by their places in that order.
 def order_key(part, places):
     lefts = [places[option.bit] for option in part.rows[LEFT]]
@@ -54,7 +59,8 @@ def order_key(part, places):
 # parts rises in the order of games; so each part stands behind all its options, and a walk along it needs no recursion.
 # No two parts are worth the same.
 class Table:
-    def __init__(self):
+    def __init__(self, most_options):
+        self.most_options = most_options
         self.parts = []
         self.used_bits = 0
         self.options_in_all = 0
@@ -103,7 +109,7 @@ class Table:
     def add_part(self, rows, as_good):
         part = Part(self.free_bit(), rows, as_good)
         options_in_all = self.options_in_all + part.option_count()
-        if len(self.parts) >= MOST_PARTS or options_in_all > MOST_OPTIONS:
+        if len(self.parts) >= MOST_PARTS or options_in_all > self.most_options:
             raise NoRoom()
         for known in self.parts:
             if known.bit & part.as_good[LEFT]:

@@ -1,10 +1,10 @@
-"""The six calls at ordinary inputs, alone and several on one object."""
+"""The calls at ordinary inputs, alone and several on one object."""
 
 import unittest
 
 from gameworth.games import answers
-from tests.helper import (ZERO, Line, firsts, fraction, game, heap, joined, make, minus, negative, number, pile, sum_of,
-                          times, whole)
+from tests.helper import (ZERO, Line, each, firsts, fraction, game, heap, joined, make, minus, negative, number, option,
+                          order, pile, read, room, shape, sum_of, times, whole, write)
 
 STAR = pile(1)
 UP = game((ZERO,), (STAR,))
@@ -14,6 +14,11 @@ class EachCallAlone(unittest.TestCase):
     def test_each_answers_one_number_that_is_0(self):
         for call in (number(3, 5), heap(3, 5), make(3, [0, 1], [2]), minus(3, 0), sum_of(3, 0, 1), times(3, 0, 4)):
             self.assertEqual(answers(call), [1, 0], call)
+
+    def test_those_that_tell_something(self):
+        self.assertEqual([each([call])[0] for call in (option(3, 0, 1, 0), order(3, 4), shape(3), room(), write(3),
+                                                       read(3, [0x47, 1, 0, 0, 0, 0, 0]), read(3, [0x47, 1, 0]))],
+                         [[-2], [0], [0, 1, 0, 0, 0, 0], [0, 1, 0], [0, 7, 0x47, 1, 0, 0, 0, 0, 0], [0], [-3]])
 
     def test_before_the_first_call_all_slots_have_0(self):
         self.assertEqual(Line().forms(), [ZERO] * 16)
@@ -67,9 +72,26 @@ class SeveralCallsOnOneObject(unittest.TestCase):
         self.assertEqual(line.form(3), line.form(4))
         self.assertEqual(line.form(5), negative(UP))
 
+    def test_all_twelve_on_one_object(self):
+        half = [0x47, 3, 0, 1, 0, 1, 0, 1, 0, 2, 0, 0, 0, 0, 0, 1, 0, 0, 0, 1, 0]
+        self.assertEqual(each([number(0, 3), heap(1, 2), make(2, [0], [1]), minus(3, 2), sum_of(4, 2, 3), times(5, 0, -2),
+                               option(6, 3, 1, 0), order(6, 5), shape(2), read(7, half), sum_of(8, 7, 7), write(7),
+                               option(9, 7, 1, 0), order(8, 9), order(4, 10), order(1, 2), order(2, 1), room()]),
+                         [[0]] * 7 + [[1], [0, 7, 11, 4, 1, 1], [0], [0], [0, 21] + half] + [[0]] * 3
+                         + [[3], [3], [0, 15, 21]])
+
+    def test_those_that_tell_something_write_no_slot(self):
+        line = Line([number(slot, slot - 8, 1) for slot in range(16)])
+        before = line.forms()
+        for slot in range(16):
+            for call in (order(slot, 3), shape(slot), room(), write(slot)):
+                self.assertGreaterEqual(line.call(call), 0)
+        self.assertEqual(line.forms(), before)
+
     def test_only_the_slot_that_is_written_changes(self):
         line = Line([number(slot, slot - 8, 1) for slot in range(16)])
-        for call in (number(3, 1), heap(4, 2), make(5, [3], [4]), minus(6, 5), sum_of(7, 6, 4), times(8, 4, 3)):
+        for call in (number(3, 1), heap(4, 2), make(5, [3], [4]), minus(6, 5), sum_of(7, 6, 4), times(8, 4, 3),
+                     option(9, 3, 0, 0), read(10, [0x47, 2, 0, 0, 0, 1, 0, 1, 0, 0, 0, 0, 0])):
             before = line.forms()
             self.assertEqual(line.call(call), 0)
             after = line.forms()
